@@ -1,0 +1,84 @@
+"""The interface: every name stands in its file, with the arguments that the document lists."""
+
+import inspect
+import unittest
+
+from columnkin import columns, schemas
+
+FUNCTIONS = (
+    (schemas, "common_group", ["schema", "first", "second"]),
+    (columns, "is_value", ["value", "kind"]),
+    (columns, "check_parts", ["schema", "parts"]),
+    (columns, "is_admissible", ["schema", "leaf", "column", "index"]),
+    (columns, "first_fault", ["schema", "leaf", "column"]),
+    (columns, "skeleton", ["column", "repetition", "definition"]),
+    (columns, "validate", ["schema", "parts"]),
+)
+
+
+class InterfaceTest(unittest.TestCase):
+    def test_functions_stand_in_their_files(self):
+        for module, name, arguments in FUNCTIONS:
+            with self.subTest(name=name):
+                function = getattr(module, name)
+                self.assertTrue(inspect.isfunction(function))
+                self.assertEqual(function.__module__, module.__name__)
+                self.assertEqual(list(inspect.signature(function).parameters), arguments)
+
+    def test_class_and_its_methods_stand_in_their_file(self):
+        self.assertTrue(inspect.isclass(schemas.Schema))
+        self.assertEqual(schemas.Schema.__module__, "columnkin.schemas")
+        for name, arguments in (
+            ("__init__", ["self", "fields"]),
+            ("__eq__", None),
+            ("__len__", ["self"]),
+            ("place_of", ["self", "path"]),
+        ):
+            with self.subTest(name=name):
+                self.assertIn(name, vars(schemas.Schema))
+                if arguments is not None:
+                    method = vars(schemas.Schema)[name]
+                    self.assertEqual(list(inspect.signature(method).parameters), arguments)
+
+    def test_arguments_may_be_named(self):
+        schema = schemas.Schema(fields=(("a", "required", "int"), ("b", "required", "int")))
+        self.assertEqual(schema.place_of(path="b"), 1)
+        self.assertEqual(schemas.common_group(schema=schema, first=0, second=1), ("", 0, 0))
+        self.assertIs(columns.is_value(value=1, kind="int"), True)
+        self.assertIs(columns.check_parts(schema=schema, parts=(None, None)), None)
+        self.assertIs(columns.is_admissible(schema=schema, leaf=0, column=((0, 0, 1),), index=0), True)
+        self.assertIs(columns.first_fault(schema=schema, leaf=0, column=()), None)
+        self.assertEqual(columns.skeleton(column=((0, 0, 1),), repetition=0, definition=0), ((0, 0),))
+        self.assertIs(columns.validate(schema=schema, parts=(None, None)), None)
+
+
+class ExamplesTest(unittest.TestCase):
+    """The examples of the document, with just the answers that it shows."""
+
+    def test_schemas(self):
+        author = (("name", "required", "text"), ("mails", "repeated", "text"))
+        schema = schemas.Schema((
+            ("id", "required", "int"),
+            ("authors", "repeated", author),
+            ("print", "optional", (("city", "optional", "text"),)),
+        ))
+        self.assertEqual(repr(schema.leaves), (
+            "(('id', 'int', 0, 0), ('authors.name', 'text', 1, 1), "
+            "('authors.mails', 'text', 2, 2), ('print.city', 'text', 0, 2))"
+        ))
+        groups = schemas.common_group(schema, 1, 2), schemas.common_group(schema, 2, 3)
+        self.assertEqual(repr(groups), "(('authors', 1, 1), ('', 0, 0))")
+
+    def test_columns(self):
+        schema = schemas.Schema((("id", "required", "int"), ("tags", "repeated", "text")))
+        answers = (
+            columns.validate(
+                schema, (((0, 0, 1), (0, 0, 2)), ((0, 1, "a"), (1, 1, "b"), (0, 0, None)))
+            ),
+            columns.validate(schema, (((0, 0, 1),), ((0, 0, None), (0, 0, None)))),
+        )
+        self.assertEqual(repr(answers), "(None, ('pair', 0, 1, ''))")
+
+
+if __name__ == "__main__":
+    unittest.main()
