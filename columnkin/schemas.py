@@ -74,12 +74,24 @@ def ways_within(fields, around):
 
 def step_below(step, name, rule):
     """The step from a group to one of its fields."""
-    path, repetition, definition = step
+    path, group_repetition, group_definition = step
+    repetition, definition = levels_below(group_repetition, group_definition, rule)
+    return (f"{path}.{name}" if path else name, repetition, definition)
+
+
+def levels_below(repetition, definition, rule):
+    """The repetition and the definition level of a field with this rule in a group with these levels."""
     return (
-        f"{path}.{name}" if path else name,
         repetition + 1 if rule == "repeated" else repetition,
         definition if rule == "required" else definition + 1,
     )
+
+
+def count_leaves(kind):
+    """How many leaves a field of this kind has in it, itself included."""
+    if type(kind) is not tuple:
+        return 1
+    return sum([count_leaves(field[2]) for field in kind])
 
 
 def leaf_of(step, kind):

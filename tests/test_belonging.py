@@ -5,38 +5,7 @@ import unittest
 
 from columnkin.columns import validate
 from columnkin.schemas import Schema
-
-
-def write(fields, record, levels, path, columns):
-    """Write a record of fields to the columns as point 8 tells it."""
-    repetition, depth, definition = levels
-    for name, rule, kind in fields:
-        below = path + (name,)
-        next_depth = depth + (rule == "repeated")
-        next_definition = definition + (rule != "required")
-        occurrences = {
-            "required": lambda value: [value],
-            "optional": lambda value: [] if value is None else [value],
-            "repeated": lambda value: value,
-        }[rule](record[name])
-        if not occurrences:
-            for leaf in columns:
-                if leaf[:len(below)] == below:
-                    columns[leaf].append((repetition, definition, None))
-        for number, occurrence in enumerate(occurrences):
-            at = next_depth if number else repetition
-            if isinstance(kind, tuple):
-                write(kind, occurrence, (at, next_depth, next_definition), below, columns)
-            else:
-                columns[below].append((at, next_definition, occurrence))
-
-
-def columns_of(schema, records):
-    """The columns of records."""
-    columns = {tuple(leaf[0].split(".")): [] for leaf in schema.leaves}
-    for record in records:
-        write(schema.fields, record, (0, 0, 0), (), columns)
-    return tuple([tuple(column) for column in columns.values()])
+from plain import columns_of
 
 
 def lists_of(items, most):

@@ -3,7 +3,7 @@
 import inspect
 import unittest
 
-from columnkin import columns, schemas
+from columnkin import columns, packing, records, repair, schemas
 
 FUNCTIONS = (
     (schemas, "common_group", ["schema", "first", "second"]),
@@ -13,6 +13,14 @@ FUNCTIONS = (
     (columns, "first_fault", ["schema", "leaf", "column"]),
     (columns, "skeleton", ["column", "repetition", "definition"]),
     (columns, "validate", ["schema", "parts"]),
+    (records, "check_records", ["schema", "records"]),
+    (records, "shred", ["schema", "records"]),
+    (records, "assemble", ["schema", "columns"]),
+    (packing, "pack", ["schema", "parts"]),
+    (packing, "unpack", ["schema", "octets"]),
+    (packing, "recover", ["schema", "octets"]),
+    (repair, "complete", ["schema", "parts"]),
+    (repair, "salvage", ["schema", "parts"]),
 )
 
 
@@ -50,6 +58,14 @@ class InterfaceTest(unittest.TestCase):
         self.assertIs(columns.first_fault(schema=schema, leaf=0, column=()), None)
         self.assertEqual(columns.skeleton(column=((0, 0, 1),), repetition=0, definition=0), ((0, 0),))
         self.assertIs(columns.validate(schema=schema, parts=(None, None)), None)
+        self.assertIs(records.check_records(schema=schema, records=[]), None)
+        self.assertEqual(records.shred(schema=schema, records=[]), ((), ()))
+        self.assertEqual(records.assemble(schema=schema, columns=((), ())), [])
+        self.assertEqual(packing.pack(schema=schema, parts=(None, None)), (0, 0))
+        self.assertEqual(packing.unpack(schema=schema, octets=(0, 0)), (None, None))
+        self.assertEqual(packing.recover(schema=schema, octets=(0, 0)), ((), []))
+        self.assertEqual(repair.complete(schema=schema, parts=(None, ())), ((), ()))
+        self.assertEqual(repair.salvage(schema=schema, parts=(None, ())), (1,))
 
 
 class ExamplesTest(unittest.TestCase):
@@ -78,6 +94,20 @@ class ExamplesTest(unittest.TestCase):
             columns.validate(schema, (((0, 0, 1),), ((0, 0, None), (0, 0, None)))),
         )
         self.assertEqual(repr(answers), "(None, ('pair', 0, 1, ''))")
+
+    def test_records(self):
+        schema = schemas.Schema((("id", "required", "int"), ("tags", "repeated", "text")))
+        found = records.shred(schema, [{"id": 1, "tags": ["a", "b"]}, {"id": 2, "tags": []}])
+        self.assertEqual(repr(found), "(((0, 0, 1), (0, 0, 2)), ((0, 1, 'a'), (1, 1, 'b'), (0, 0, None)))")
+        found = records.assemble(schema, (((0, 0, 1), (0, 0, 2)), ((0, 1, "a"), (1, 1, "b"), (0, 0, None))))
+        self.assertEqual(repr(found), "[{'id': 1, 'tags': ['a', 'b']}, {'id': 2, 'tags': []}]")
+
+    def test_packing(self):
+        schema = schemas.Schema((("id", "required", "int"), ("tags", "repeated", "text")))
+        found = packing.pack(schema, (((0, 0, 1), (0, 0, -2)), None))
+        self.assertEqual(repr(found), "(5, 2, 8, 8, 2, 3, 0)")
+        found = packing.unpack(schema, (5, 2, 8, 8, 2, 3, 1, 5))
+        self.assertEqual(repr(found), "(((0, 0, 1), (0, 0, -2)), None)")
 
 
 if __name__ == "__main__":
