@@ -80,6 +80,11 @@ def first_fault(schema, leaf, column):
     return None
 
 
+def has_sound(schema, parts, leaf):
+    """True if the column of a leaf is there and sound."""
+    return parts[leaf] is not None and first_fault(schema, leaf, parts[leaf]) is None
+
+
 def skeleton(column, repetition, definition):
     """The skeleton of a column at a group with these levels."""
     return tuple([(entry[0], min(entry[1], definition)) for entry in column if entry[0] <= repetition])
@@ -102,5 +107,11 @@ def validate(schema, parts):
 
 def columns_fit(schema, parts, first, second):
     """True if the columns of two different leaves, which are there and sound, fit."""
+    one, other = skeletons_of(schema, parts, first, second)
+    return one == other
+
+
+def skeletons_of(schema, parts, first, second):
+    """The skeletons of the columns of two different leaves at the innermost group of both."""
     path, repetition, definition = common_group(schema, first, second)
-    return skeleton(parts[first], repetition, definition) == skeleton(parts[second], repetition, definition)
+    return (skeleton(parts[first], repetition, definition), skeleton(parts[second], repetition, definition))

@@ -1,6 +1,6 @@
 """Repair: lost columns are made up, and of damaged ones those that belong together are kept (points 16 to 19)."""
 
-from columnkin.columns import check_parts, first_fault, skeleton, validate
+from columnkin.columns import check_parts, has_sound, skeleton, validate
 from columnkin.errors import Inconsistent
 
 MADE_UP_VALUES = {"int": 0, "text": "", "flag": False}
@@ -38,10 +38,7 @@ def made_up(schema, leaf, outline):
 def salvage(schema, parts):
     """The tuple of the salvaged leaves, ascending."""
     check_parts(schema, parts)
-    sound = [
-        leaf for leaf in range(len(schema))
-        if parts[leaf] is not None and first_fault(schema, leaf, parts[leaf]) is None
-    ]
+    sound = [leaf for leaf in range(len(schema)) if has_sound(schema, parts, leaf)]
     return tuple(chosen(schema, parts, sound, 0))
 
 

@@ -7,34 +7,7 @@ from columnkin.columns import validate
 from columnkin.packing import pack, recover, unpack
 from columnkin.records import assemble, check_records, shred
 from columnkin.repair import complete, salvage
-from plain import columns_of, draws, drawn_records, drawn_schema
-
-
-def drawn_columns(source, schema):
-    """The columns of drawn records."""
-    return shred(schema, drawn_records(source, schema, 4))
-
-
-def with_losses(source, columns):
-    """The columns, some of them missing."""
-    share = source.choice((0.1, 0.5, 0.9, 1))
-    return tuple([None if source.random() < share else column for column in columns])
-
-
-def damaged(source, schema):
-    """Parts with columns of three sets of records, some of them missing or with another entry."""
-    sets = [drawn_columns(source, schema) for _ in range(3)]
-    parts = []
-    for leaf in range(len(schema)):
-        column = list(source.choice((sets[0], sets[0], sets[1], sets[2]))[leaf])
-        if column and source.random() < 0.2:
-            column[source.randrange(len(column))] = source.choice(((0, 0, None), (1, 1, None), (0, 1, 5), (3, 3, True)))
-        parts.append(None if source.random() < 0.1 else tuple(column))
-    return tuple(parts)
-
-
-def only(parts, leaves):
-    return tuple([parts[leaf] if leaf in leaves else None for leaf in range(len(parts))])
+from plain import columns_of, damaged, drawn_columns, draws, drawn_records, drawn_schema, only, with_losses
 
 
 def greatest_number(schema, parts):

@@ -3,7 +3,7 @@
 import inspect
 import unittest
 
-from columnkin import columns, packing, records, repair, schemas
+from columnkin import asks, columns, packing, papers, records, repair, schemas, tables
 
 FUNCTIONS = (
     (schemas, "common_group", ["schema", "first", "second"]),
@@ -21,6 +21,22 @@ FUNCTIONS = (
     (packing, "recover", ["schema", "octets"]),
     (repair, "complete", ["schema", "parts"]),
     (repair, "salvage", ["schema", "parts"]),
+    (papers, "judge", ["schema", "parts", "paper"]),
+    (papers, "paper_for", ["schema", "parts"]),
+    (asks, "picked", ["schema", "columns", "paths"]),
+    (asks, "counts", ["schema", "columns", "path"]),
+    (asks, "totals", ["schema", "columns", "path"]),
+    (asks, "holding", ["schema", "columns", "path", "value"]),
+)
+CLASSES = (
+    (schemas.Schema, "columnkin.schemas", (
+        ("__init__", ["self", "fields"]), ("__eq__", None), ("__len__", ["self"]), ("place_of", ["self", "path"]),
+    )),
+    (tables.Table, "columnkin.tables", (
+        ("__init__", ["self", "schema"]), ("append", ["self", "records"]), ("truncate", ["self", "count"]),
+        ("adopt", ["self", "schema"]), ("undo", ["self"]), ("record", ["self", "number"]), ("records", ["self"]),
+        ("tried", ["self"]), ("foresee", ["self", "records"]), ("__len__", ["self"]), ("__iter__", ["self"]),
+    )),
 )
 
 
@@ -33,20 +49,21 @@ class InterfaceTest(unittest.TestCase):
                 self.assertEqual(function.__module__, module.__name__)
                 self.assertEqual(list(inspect.signature(function).parameters), arguments)
 
-    def test_class_and_its_methods_stand_in_their_file(self):
-        self.assertTrue(inspect.isclass(schemas.Schema))
-        self.assertEqual(schemas.Schema.__module__, "columnkin.schemas")
-        for name, arguments in (
-            ("__init__", ["self", "fields"]),
-            ("__eq__", None),
-            ("__len__", ["self"]),
-            ("place_of", ["self", "path"]),
-        ):
-            with self.subTest(name=name):
-                self.assertIn(name, vars(schemas.Schema))
-                if arguments is not None:
-                    method = vars(schemas.Schema)[name]
-                    self.assertEqual(list(inspect.signature(method).parameters), arguments)
+    def test_classes_and_their_methods_stand_in_their_files(self):
+        for kind, file, methods in CLASSES:
+            self.assertTrue(inspect.isclass(kind))
+            self.assertEqual(kind.__module__, file)
+            for name, arguments in methods:
+                with self.subTest(name=name):
+                    self.assertIn(name, vars(kind))
+                    if arguments is not None:
+                        self.assertEqual(list(inspect.signature(vars(kind)[name]).parameters), arguments)
+
+    def test_attributes_are_set_at_once(self):
+        schema = schemas.Schema((("a", "required", "int"),))
+        self.assertEqual((schema.fields, schema.leaves), ((("a", "required", "int"),), (("a", "int", 0, 0),)))
+        table = tables.Table(schema)
+        self.assertEqual((table.schema, table.columns), (schema, ((),)))
 
     def test_arguments_may_be_named(self):
         schema = schemas.Schema(fields=(("a", "required", "int"), ("b", "required", "int")))
@@ -66,6 +83,22 @@ class InterfaceTest(unittest.TestCase):
         self.assertEqual(packing.recover(schema=schema, octets=(0, 0)), ((), []))
         self.assertEqual(repair.complete(schema=schema, parts=(None, ())), ((), ()))
         self.assertEqual(repair.salvage(schema=schema, parts=(None, ())), (1,))
+
+    def test_arguments_of_papers_asks_and_tables_may_be_named(self):
+        schema = schemas.Schema(fields=(("a", "required", "int"), ("b", "required", "int")))
+        self.assertIs(papers.judge(schema=schema, parts=(None, None), paper=("records", [])), True)
+        self.assertEqual(papers.paper_for(schema=schema, parts=(None, None)), ("records", []))
+        found = (schemas.Schema((("b", "required", "int"),)), ((),))
+        self.assertEqual(asks.picked(schema=schema, columns=((), ()), paths=("b",)), found)
+        self.assertEqual(asks.counts(schema=schema, columns=((), ()), path="b"), [])
+        self.assertEqual(asks.totals(schema=schema, columns=((), ()), path="b"), [])
+        self.assertEqual(asks.holding(schema=schema, columns=((), ()), path="b", value=1), [])
+        table = tables.Table(schema=schema)
+        self.assertEqual(table.append(records=[{"a": 1, "b": 2}]), 1)
+        self.assertEqual(table.foresee(records=[]), 1)
+        self.assertEqual(table.record(number=0), {"a": 1, "b": 2})
+        self.assertIs(table.adopt(schema=schema), None)
+        self.assertEqual(table.truncate(count=0), 1)
 
 
 class ExamplesTest(unittest.TestCase):

@@ -1,10 +1,14 @@
-"""Points 2, 6 and 7: what values are, and what parts of a schema are."""
+"""Points 2, 3, 6 and 7: what values are, what parts of a schema are, and what is called with parts that are none."""
 
 import copy
 import unittest
 
 from columnkin.columns import check_parts, is_value, validate
-from columnkin.errors import BadParts
+from columnkin.errors import BadParts, Inconsistent, Unsound
+from columnkin.packing import pack
+from columnkin.papers import judge, paper_for
+from columnkin.records import assemble
+from columnkin.repair import complete, salvage
 from columnkin.schemas import Schema
 
 SIGNS = "abcdefghijklmnopqrstuvwxyzABCDEFGHIJKLMNOPQRSTUVWXYZ0123456789 .,;:!?-_@/()"
@@ -62,18 +66,31 @@ class ValuesTest(unittest.TestCase):
             self.assertIs(is_value(value, "flag"), False)
 
 
+# All that is called with parts, with the errors that it may raise for parts that are some.
+CALLS = (
+    (check_parts, ()), (validate, ()), (assemble, Inconsistent), (complete, Inconsistent), (salvage, ()), (pack, Unsound),
+    (lambda schema, parts: judge(schema, parts, ("records", [])), ()),
+    (lambda schema, parts: judge(schema, parts, ("entry", 0, 0)), ()),
+    (lambda schema, parts: judge(schema, parts, None), ()),
+    (paper_for, ()),
+)
+
+
 class PartsTest(unittest.TestCase):
-    """Parts that are refused are refused by validate as well."""
+    """Parts that are refused are refused by the whole program, and others by nothing."""
 
     def assert_taken(self, schema, parts):
         self.assertIs(check_parts(schema, parts), None)
-        validate(schema, parts)
+        for call, errors in CALLS:
+            try:
+                call(schema, parts)
+            except errors:
+                pass
 
     def assert_refused(self, schema, parts):
-        with self.assertRaises(BadParts):
-            check_parts(schema, parts)
-        with self.assertRaises(BadParts):
-            validate(schema, parts)
+        for call, errors in CALLS:
+            with self.assertRaises(BadParts):
+                call(schema, parts)
 
     def assert_column(self, column, taken):
         """The column is taken, or is not, in every place, beside missing columns and others."""
