@@ -9,9 +9,12 @@ from columnkin.repair import complete
 def judge(schema, parts, paper):
     """True if the paper is taken; whatever it is, it raises no error."""
     check_parts(schema, parts)
-    if type(paper) is not tuple or len(paper) == 0 or type(paper[0]) is not str:
+    if type(paper) is not tuple or len(paper) == 0:
         return False
     word, *told = paper
+    # Only of texts it is certain that they can be compared.
+    if type(word) is not str:
+        return False
     if word == "records" and len(told) == 1:
         return are_their_records(schema, parts, told[0])
     if word == "entry" and len(told) == 2:

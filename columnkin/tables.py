@@ -43,6 +43,7 @@ class Table:
 
     def adopt(self, schema):
         """Take another schema, which has all leaves of the present one."""
+        # A column that is made up has no more entries than one that is there, so none is too long.
         self.change_to(schema, complete(schema, parts_for(schema, self.schema, self.columns)))
 
     def change_to(self, schema, columns):

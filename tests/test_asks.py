@@ -42,6 +42,7 @@ NO_FIELDS = (
     "", "x", "ID", "id ", " id", ".id", "id.", "title", "book", "bookss", "books.", ".books", "books.x", "books.id",
     "books.press.", "press", "press.city", "books.city", "books.press.city.x", "books..press", "room.books", "id.id",
     "books/title", None, 0, 1, True, False, b"id", (), ("id",), ["id"], {}, 0.0, object(), SHELF,
+    type("Same", (), {"__eq__": lambda self, other: True, "__hash__": lambda self: 0})(),
 )
 
 

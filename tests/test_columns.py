@@ -78,6 +78,12 @@ class AdmissibleTest(unittest.TestCase):
             self.assertEqual(first_fault(TAGS, 0, (*column, (0, 0, None))), length)
             self.assertIs(is_admissible(TAGS, 0, column, length - 1), True)
 
+    def test_what_is_no_entry_is_not_admissible(self):
+        column = ((0, 0, 1), (-1, 0, 1), (0, -1, None), (0, 0), (0, 0, 1, 1), None)
+        for index, right in ((-7, False), (-1, False), (0, True), *[(index, False) for index in (1, 2, 3, 4, 5, 6, 100)]):
+            self.assertIs(is_admissible(TAGS, 0, column, index), right)
+        self.assertIs(is_admissible(TAGS, 0, (), 0), False)
+
     def test_repetition_levels_beyond_that_of_the_leaf(self):
         ahead = (0, 1, 1)
         for schema, most in ((one("optional"), 0), (one("repeated"), 1)):
